@@ -1,0 +1,87 @@
+package wire
+
+import "wharf/api"
+
+// Parse reads a request: ErrForm, if the string is not the bytes of a right one.
+func Parse(s string) (api.Request, api.Errno) {
+	in := reader{rest: s}
+	r := api.Request{Op: byte(in.number(1))}
+	if !isOp(r.Op) {
+		return api.Request{}, api.ErrForm
+	}
+	for _, f := range layouts[r.Op-'A'] {
+		readField(&in, &r, f)
+	}
+	if in.failed || in.rest != "" || !right(r) {
+		return api.Request{}, api.ErrForm
+	}
+	return r, api.OK
+}
+
+// Print writes a request: ErrForm, if it is not right.
+func Print(r api.Request) (string, api.Errno) {
+	if !right(r) {
+		return "", api.ErrForm
+	}
+	out := []byte{r.Op}
+	for _, f := range layouts[r.Op-'A'] {
+		out = appendField(out, &r, f)
+	}
+	return string(out), api.OK
+}
+
+// readField takes a field's bytes and sets the field.
+func readField(in *reader, r *api.Request, f field) {
+	switch rows[f].shape {
+	case letter:
+		*letterOf(r, f) = byte(in.number(1))
+	case short:
+		*numberOf(r, f) = in.number(1)
+	case long:
+		*numberOf(r, f) = in.number(2)
+	case text:
+		*textOf(r, f) = in.text()
+	case texts:
+		r.Batch = in.texts()
+	}
+}
+
+// appendField puts a field's bytes behind others. The field must be within its bounds,
+// since a greater number or length would lose its high bytes here.
+func appendField(out []byte, r *api.Request, f field) []byte {
+	switch rows[f].shape {
+	case letter:
+		return append(out, *letterOf(r, f))
+	case short:
+		return appendNumber(out, *numberOf(r, f), 1)
+	case long:
+		return appendNumber(out, *numberOf(r, f), 2)
+	case text:
+		return appendText(out, *textOf(r, f))
+	default:
+		return appendTexts(out, r.Batch)
+	}
+}
+
+// appendNumber puts a number of so many bytes behind others.
+func appendNumber(out []byte, n int, size int) []byte {
+	for range size {
+		out = append(out, byte(n))
+		n >>= 8
+	}
+	return out
+}
+
+// appendText puts a text behind other bytes.
+func appendText(out []byte, s string) []byte {
+	return append(appendNumber(out, len(s), 1), s...)
+}
+
+// appendTexts puts a count and so many texts behind other bytes.
+func appendTexts(out []byte, list []string) []byte {
+	out = appendNumber(out, len(list), 1)
+	for _, s := range list {
+		out = appendText(out, s)
+	}
+	return out
+}
