@@ -53,18 +53,18 @@ func appendField(out []byte, r *api.Request, f field) []byte {
 	case letter:
 		return append(out, *letterOf(r, f))
 	case short:
-		return appendNumber(out, *numberOf(r, f), 1)
+		return AppendNumber(out, *numberOf(r, f), 1)
 	case long:
-		return appendNumber(out, *numberOf(r, f), 2)
+		return AppendNumber(out, *numberOf(r, f), 2)
 	case text:
-		return appendText(out, *textOf(r, f))
+		return AppendText(out, *textOf(r, f))
 	default:
-		return appendTexts(out, r.Batch)
+		return AppendTexts(out, r.Batch)
 	}
 }
 
-// appendNumber puts a number of so many bytes behind others.
-func appendNumber(out []byte, n int, size int) []byte {
+// AppendNumber puts a number of so many bytes behind others.
+func AppendNumber(out []byte, n int, size int) []byte {
 	for range size {
 		out = append(out, byte(n))
 		n >>= 8
@@ -72,16 +72,16 @@ func appendNumber(out []byte, n int, size int) []byte {
 	return out
 }
 
-// appendText puts a text behind other bytes.
-func appendText(out []byte, s string) []byte {
-	return append(appendNumber(out, len(s), 1), s...)
+// AppendText puts a text behind other bytes.
+func AppendText(out []byte, s string) []byte {
+	return append(AppendNumber(out, len(s), 1), s...)
 }
 
-// appendTexts puts a count and so many texts behind other bytes.
-func appendTexts(out []byte, list []string) []byte {
-	out = appendNumber(out, len(list), 1)
+// AppendTexts puts a count and so many texts behind other bytes.
+func AppendTexts(out []byte, list []string) []byte {
+	out = AppendNumber(out, len(list), 1)
 	for _, s := range list {
-		out = appendText(out, s)
+		out = AppendText(out, s)
 	}
 	return out
 }
