@@ -62,6 +62,16 @@ func New(r api.Request) *Queue {
 	}
 }
 
+// Copy makes a queue that has the same, and shares nothing that changes with this one.
+func (q *Queue) Copy() *Queue {
+	out := *q
+	out.messages = slices.Clone(q.messages)
+	out.ready = slices.Clone(q.ready)
+	out.dedups = slices.Clone(q.dedups)
+	out.attempts = slices.Clone(q.attempts)
+	return &out
+}
+
 // Dead tells the letter of the queue that groups are put aside into, or '-'.
 func (q *Queue) Dead() byte { return q.dead }
 

@@ -27,6 +27,7 @@ func New() *State {
 func deeds() [26]deed {
 	return [26]deed{
 		'A' - 'A': (*State).acknowledge,
+		'B' - 'A': (*State).batch,
 		'C' - 'A': (*State).create,
 		'E' - 'A': (*State).extend,
 		'P' - 'A': within((*queue.Queue).Purge),
@@ -39,17 +40,22 @@ func deeds() [26]deed {
 }
 
 // Plan tells what a right request is answered, and what makes the change it asks for:
-// nil, if nothing is to be changed. An Op that does not stand in the table is no request yet.
+// nil, if nothing is to be changed.
 func (s *State) Plan(r api.Request) (string, func()) {
-	do := s.deeds[r.Op-'A']
-	if do == nil {
-		return Refusal(api.ErrForm), nil
-	}
-	answer, change, e := do(s, r)
+	answer, change, e := s.deeds[r.Op-'A'](s, r)
 	if e != api.OK {
 		return Refusal(e), nil
 	}
 	return string(append([]byte{byte(api.OK)}, answer...)), change
+}
+
+// Do does a right request, and answers it.
+func (s *State) Do(r api.Request) string {
+	answer, change := s.Plan(r)
+	if change != nil {
+		change()
+	}
+	return answer
 }
 
 // Refusal is the answer to a request that is not done.

@@ -102,6 +102,23 @@ func extend(handle string, ticks int) string { return "E" + text(handle) + numbe
 
 func goOn(ticks int) string { return "T" + numberBytes(ticks, 2) }
 
+func batch(requests ...string) string {
+	out := "B" + numberBytes(len(requests), 1)
+	for _, s := range requests {
+		out += text(s)
+	}
+	return out
+}
+
+// replies is the answer to a B.
+func replies(answers ...string) string {
+	out := "\x00" + numberBytes(len(answers), 1)
+	for _, s := range answers {
+		out += text(s)
+	}
+	return out
+}
+
 func handle(queue byte, number, received int) string {
 	return "H" + string([]byte{queue}) + four(number) + numberBytes(received, 2)
 }

@@ -20,10 +20,12 @@ type model struct {
 // do does a request on the model, and answers it.
 func (m *model) do(s string) string {
 	r, e := wharf.Parse(s)
-	if e != api.OK || r.Op == 'B' {
+	if e != api.OK {
 		return "\x01"
 	}
 	switch r.Op {
+	case 'B':
+		return m.batch(r.Batch)
 	case 'T':
 		return m.goOn(r.Ticks)
 	case 'A', 'E':
@@ -52,6 +54,18 @@ func (m *model) do(s string) string {
 		return m.receive(q, r)
 	}
 	return "\x00"
+}
+
+func (m *model) batch(requests []string) string {
+	var out []string
+	for _, s := range requests {
+		if s != "" && strings.Contains("SAE", s[:1]) {
+			out = append(out, m.do(s))
+		} else {
+			out = append(out, "\x01")
+		}
+	}
+	return replies(out...)
 }
 
 func (m *model) send(q *view, r api.Request) string {
@@ -264,27 +278,57 @@ func (p *player) create() string {
 	return create(q, 1+p.IntN(12), p.IntN(10), p.IntN(4), dead, []int{1, 2, 3, 5, 10, 50}[p.IntN(6)])
 }
 
+// batch makes a B, mostly of requests that may stand in one.
+func (p *player) batch() string {
+	list := make([]string, 1+p.IntN(10))
+	for i := range list {
+		switch s := p.next(); {
+		case len(s) < 256 && p.IntN(8) == 0:
+			list[i] = s
+		case p.IntN(2) == 0:
+			list[i] = p.send()
+		case p.IntN(2) == 0:
+			list[i] = acknowledge(p.handle())
+		default:
+			list[i] = p.extend()
+		}
+	}
+	return batch(list...)
+}
+
+func (p *player) send() string {
+	groups := []string{"g", "h", "k", "G", "gg", "\x00", "12345678"}
+	body := p.one("", "1", "2", "3", "4", "5", strings.Repeat("b", 40), strings.Repeat("b", 41), numberBytes(p.IntN(65536), 2))
+	return send(p.letter(), groups[p.IntN(len(groups))], p.one("", "", "d", "e", numberBytes(1+p.IntN(100), 1)), body)
+}
+
+func (p *player) extend() string {
+	return extend(p.handle(), []int{0, 0, 1, 2, 5, 15}[p.IntN(6)])
+}
+
 // next makes a request.
 func (p *player) next() string {
-	groups := []string{"g", "h", "k", "G", "gg", "\x00", "12345678"}
 	switch n := p.IntN(100); {
 	case n == 0 && !p.lasting:
 		return remove(p.letter())
 	case n == 1:
 		return purge(p.letter())
 	case n == 2:
-		return p.one("", "x", "T\x00\x00", "Vi", "S", "B\x01\x00", "B\x01\x0aSa\x01g\x00\x04more")
-	case n < 5 || n < 10 && !p.mild:
+		return p.one("", "x", "T\x00\x00", "Vi", "S", "B\x00", "B\x01\x0aSa\x01g\x00\x04mor")
+	case n == 3:
+		return show(p.letter())
+	case n < 6 || n < 10 && !p.mild:
 		return p.create()
+	case n < 14:
+		return p.batch()
 	case n < 40:
-		body := p.one("", "1", "2", "3", "4", "5", strings.Repeat("b", 40), strings.Repeat("b", 41), numberBytes(p.IntN(65536), 2))
-		return send(p.letter(), groups[p.IntN(len(groups))], p.one("", "", "d", "e", numberBytes(1+p.IntN(100), 1)), body)
+		return p.send()
 	case n < 65:
 		return receive(p.letter(), p.one("", "", "t", "u", numberBytes(p.IntN(100), 1)), []int{1, 1, 2, 3, 10}[p.IntN(5)])
 	case n < 80:
 		return acknowledge(p.handle())
 	case n < 90:
-		return extend(p.handle(), []int{0, 0, 1, 2, 5, 15}[p.IntN(6)])
+		return p.extend()
 	case p.hasty:
 		return goOn(1 + p.IntN(1000))
 	default:
@@ -292,11 +336,14 @@ func (p *player) next() string {
 	}
 }
 
+// newModel is a broker without queues.
+func newModel() *model { return &model{queues: map[byte]*view{}} }
+
 // compare plays a game of so many steps, and holds every answer, and all queues, against the model's.
 func compare(t *testing.T, p *player, steps int) {
 	t.Helper()
 	b := begin(t)
-	m := &model{queues: map[byte]*view{}}
+	m := newModel()
 	for range steps {
 		s := p.next()
 		answer := m.do(s)

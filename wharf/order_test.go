@@ -73,7 +73,7 @@ func TestDrained(t *testing.T) {
 func TestSpoiltRequestsDone(t *testing.T) {
 	g := rand.New(rand.NewPCG(5, 6))
 	list := samples()
-	b, m := begin(t), &model{queues: map[byte]*view{}}
+	b, m := begin(t), newModel()
 	for step := range 100000 {
 		s := []byte(list[g.IntN(len(list))].s)
 		for range g.IntN(3) {
@@ -81,7 +81,7 @@ func TestSpoiltRequestsDone(t *testing.T) {
 		}
 		b.gets(string(s), m.do(string(s)))
 		if step%100 == 0 {
-			b, m = begin(t), &model{queues: map[byte]*view{}}
+			b, m = begin(t), newModel()
 		}
 	}
 }

@@ -33,12 +33,10 @@ func (b *Broker) Do(request string) string {
 	if e != api.OK {
 		return state.Refusal(e)
 	}
-	answer, change := b.state.Plan(r)
-	if change != nil {
-		change()
-	}
-	return answer
+	return b.state.Do(r)
 }
 
 // Serve does requests, and answers each (P12).
-func (b *Broker) Serve(requests []string) []string { return nil }
+func (b *Broker) Serve(requests []string) []string {
+	return b.state.Serve(requests)
+}
