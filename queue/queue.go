@@ -72,6 +72,9 @@ func (q *Queue) Copy() *Queue {
 	return &out
 }
 
+// Letter tells the queue's letter.
+func (q *Queue) Letter() byte { return q.letter }
+
 // Dead tells the letter of the queue that groups are put aside into, or '-'.
 func (q *Queue) Dead() byte { return q.dead }
 

@@ -7,13 +7,17 @@ import (
 
 // Show tells all that the queue has (V).
 func (q *Queue) Show(int, api.Request) ([]byte, func(), api.Errno) {
-	out := q.appendSettings(nil)
+	return q.appendAll(nil), nil, api.OK
+}
+
+// appendAll puts all that the queue has behind other bytes.
+func (q *Queue) appendAll(out []byte) []byte {
+	out = q.appendSettings(out)
 	out = wire.AppendNumber(out, q.next, 4)
 	out = q.appendMessages(out)
 	out = wire.AppendTexts(out, q.ready)
 	out = q.appendDedups(out)
-	out = q.appendAttempts(out)
-	return out, nil, api.OK
+	return q.appendAttempts(out)
 }
 
 // appendSettings puts what was set when the queue was made behind other bytes.

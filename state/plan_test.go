@@ -76,7 +76,7 @@ func (g source) next() api.Request {
 	case n < 19:
 		return g.batch()
 	default:
-		return api.Request{Op: 'T', Ticks: 1 + g.IntN(4)}
+		return api.Request{Op: 'T', Ticks: []int{1, 2, 3, 4, 700}[g.IntN(5)]}
 	}
 }
 

@@ -15,10 +15,10 @@ func ReadHandle(s string) (Handle, bool) {
 	if len(s) != handleSize || s[0] != 'H' || !isQueue(s[1]) {
 		return Handle{}, false
 	}
-	in := reader{rest: s[2:]}
+	in := NewReader(s[2:])
 	h := Handle{Queue: s[1]}
-	h.Number = in.number(4)
-	h.Received = in.number(2)
+	h.Number = in.Number(4)
+	h.Received = in.Number(2)
 	return h, true
 }
 

@@ -4,15 +4,15 @@ import "wharf/api"
 
 // Parse reads a request: ErrForm, if the string is not the bytes of a right one.
 func Parse(s string) (api.Request, api.Errno) {
-	in := reader{rest: s}
-	r := api.Request{Op: byte(in.number(1))}
+	in := NewReader(s)
+	r := api.Request{Op: byte(in.Number(1))}
 	if !isOp(r.Op) {
 		return api.Request{}, api.ErrForm
 	}
 	for _, f := range layouts[r.Op-'A'] {
-		readField(&in, &r, f)
+		readField(in, &r, f)
 	}
-	if in.failed || in.rest != "" || !right(r) {
+	if in.Failed() || in.Left() > 0 || !right(r) {
 		return api.Request{}, api.ErrForm
 	}
 	return r, api.OK
@@ -31,18 +31,18 @@ func Print(r api.Request) (string, api.Errno) {
 }
 
 // readField takes a field's bytes and sets the field.
-func readField(in *reader, r *api.Request, f field) {
+func readField(in *Reader, r *api.Request, f field) {
 	switch rows[f].shape {
 	case letter:
-		*letterOf(r, f) = byte(in.number(1))
+		*letterOf(r, f) = byte(in.Number(1))
 	case short:
-		*numberOf(r, f) = in.number(1)
+		*numberOf(r, f) = in.Number(1)
 	case long:
-		*numberOf(r, f) = in.number(2)
+		*numberOf(r, f) = in.Number(2)
 	case text:
-		*textOf(r, f) = in.text()
+		*textOf(r, f) = in.Text()
 	case texts:
-		r.Batch = in.texts()
+		r.Batch = in.Texts()
 	}
 }
 
